@@ -1,0 +1,86 @@
+"""The interface: names, where they are defined, and the names of their arguments."""
+
+import importlib
+import inspect
+import unittest
+
+FUNCTIONS = {
+    "turnpike.money.keys": {"key_of": "(secret)"},
+    "turnpike.money.locks": {"was_opened": "(lock, receipts)", "lock_shares": "(locks, receipts)"},
+    "turnpike.money.states": {
+        "opening_state": "(opening)", "total": "(state)", "worth": "(state, receipts)",
+    },
+    "turnpike.money.steps": {
+        "first_proposes": "(number)", "next_state": "(state, moves, *, cover=(0, 0))",
+    },
+}
+
+CLASSES = {
+    "turnpike.errors": {
+        "TurnpikeError": {}, "OutOfBounds": {}, "InvalidPurses": {}, "TooMuchMoney": {}, "InvalidSettings": {},
+        "NoSuchHand": {}, "IsHonest": {}, "UnknownLetter": {}, "UnknownParty": {}, "NotNow": {}, "InvalidDeed": {},
+        "InvalidText": {"__init__": "(line)"},
+    },
+    "turnpike.money.steps": {"Draft": {"__init__": "(state, cover)", "make": "(move)"}},
+    "turnpike.money.settings": {
+        "Settings": {
+            "__init__": "(*, fee, lead, margin, delay, far, least, farthest, reveal_lead, base, per_mille, gap)",
+        },
+    },
+}
+
+PROPERTIES = {("turnpike.money.settings", "Settings"): ["toll"]}
+OPERATORS = {("turnpike.money.settings", "Settings"): ["__eq__"]}
+
+
+def defined(module, name):
+    """Return what the module has under the name."""
+    return getattr(importlib.import_module(module), name)
+
+
+def arguments_of(function, skipped):
+    """Return the arguments of the function as text, without annotations and without the first skipped ones."""
+    parameters = list(inspect.signature(function).parameters.values())[skipped:]
+    return str(inspect.Signature([each.replace(annotation=inspect.Parameter.empty) for each in parameters]))
+
+
+class InterfaceTest(unittest.TestCase):
+    def test_functions_stand_in_their_files(self):
+        for module, functions in FUNCTIONS.items():
+            for name, arguments in functions.items():
+                with self.subTest(module=module, name=name):
+                    function = defined(module, name)
+                    self.assertTrue(inspect.isfunction(function))
+                    self.assertEqual(function.__module__, module)
+                    self.assertEqual(arguments_of(function, 0), arguments)
+
+    def test_classes_stand_in_their_files(self):
+        for module, classes in CLASSES.items():
+            for name in classes:
+                with self.subTest(module=module, name=name):
+                    self.assertTrue(inspect.isclass(defined(module, name)))
+                    self.assertEqual(defined(module, name).__module__, module)
+
+    def test_methods_stand_in_their_classes(self):
+        for module, classes in CLASSES.items():
+            for name, methods in classes.items():
+                for method, arguments in methods.items():
+                    with self.subTest(module=module, name=name, method=method):
+                        found = vars(defined(module, name))[method]
+                        self.assertEqual(arguments_of(found, 1), arguments)
+
+    def test_properties_stand_in_their_classes(self):
+        for (module, name), names in PROPERTIES.items():
+            for each in names:
+                with self.subTest(module=module, name=name, each=each):
+                    self.assertIsInstance(vars(defined(module, name))[each], property)
+
+    def test_operators_stand_in_their_classes(self):
+        for (module, name), names in OPERATORS.items():
+            for each in names:
+                with self.subTest(module=module, name=name, each=each):
+                    self.assertTrue(inspect.isfunction(vars(defined(module, name))[each]))
+
+
+if __name__ == "__main__":
+    unittest.main()

@@ -1,0 +1,1 @@
+"""Turnpike: payment channels over one ledger with little room."""

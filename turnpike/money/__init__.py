@@ -1,0 +1,1 @@
+"""Keys, locks, states, steps and settings."""

@@ -1,0 +1,4 @@
+"""The greatest numbers that arguments may be."""
+
+GREATEST_AMOUNT = 10 ** 15
+GREATEST_HEIGHT = 10 ** 12
