@@ -13,6 +13,17 @@ FUNCTIONS = {
     "turnpike.money.steps": {
         "first_proposes": "(number)", "next_state": "(state, moves, *, cover=(0, 0))",
     },
+    "turnpike.money.agreeing": {"agrees": "(settings, height, receipts, state, moves, *, cover=(0, 0))"},
+    "turnpike.money.tolls": {
+        "must_come_in": "(toll, amount)", "may_give": "(toll, height, inner, outer)",
+        "legs": "(amount, deadline, tolls)",
+    },
+    "turnpike.money.bounds": {"wait_budget": "(money, room, fee)", "wait_bound": "(money, room, fee)"},
+    "turnpike.ledger.vault": {
+        "free_of": "(vault, state)", "fits": "(vault, state)", "shares": "(vault, receipts)", "copy_vault": "(vault)",
+    },
+    "turnpike.ledger.book": {"copy_book": "(book)"},
+    "turnpike.ledger.reasons": {"takes": "(book, thing)", "reasons": "(book, thing)"},
 }
 
 CLASSES = {
@@ -26,6 +37,14 @@ CLASSES = {
         "Settings": {
             "__init__": "(*, fee, lead, margin, delay, far, least, farthest, reveal_lead, base, per_mille, gap)",
         },
+    },
+    "turnpike.ledger.vault": {
+        "Vault": {
+            "__init__": "(opening, *, sums=(0, 0, 0, 0), splices=0, least=0, published=None, since=None)",
+        },
+    },
+    "turnpike.ledger.book": {
+        "Book": {"__init__": "(purses)", "purse": "(party)", "give": "(party, amount)", "sum_of_money": "()"},
     },
 }
 

@@ -1,1 +1,1 @@
-"""Keys, locks, states, steps and settings."""
+"""Keys, locks, states, steps, settings, tolls and bounds."""

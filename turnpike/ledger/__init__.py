@@ -1,0 +1,1 @@
+"""The ledger: channels, purses, and what speaks against a thing."""
