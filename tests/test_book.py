@@ -2,23 +2,12 @@
 
 import unittest
 
+from tests.helpers import book_fields as fields
 from turnpike.ledger.book import Book, copy_book
 from turnpike.ledger.vault import Vault
 
 MUCH = 10 ** 15
 OPENING = (7, 1, 2, 40, 60, 10, 1000)
-
-
-def fields(book):
-    """Return all that a book tells, in its order."""
-    vaults = [
-        (number, vault.opening, vault.sums, vault.splices, vault.least, vault.published, vault.since, vault.money)
-        for number, vault in book.vaults.items()
-    ]
-    return (
-        list(book.purses.items()), vaults, list(book.receipts.items()), list(book.ended), list(book.done),
-        book.height, book.burnt,
-    )
 
 
 def full_book():

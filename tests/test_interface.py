@@ -24,6 +24,11 @@ FUNCTIONS = {
     },
     "turnpike.ledger.book": {"copy_book": "(book)"},
     "turnpike.ledger.reasons": {"takes": "(book, thing)", "reasons": "(book, thing)"},
+    "turnpike.ledger.acts": {"carry_out": "(book, thing)"},
+    "turnpike.ledger.ledger": {"copy_ledger": "(ledger)"},
+    "turnpike.ledger.explaining": {"outlook": "(ledger, number)", "holds": "(ledger, party)"},
+    "turnpike.ledger.audit": {"audit": "(purses, entries, *, room)"},
+    "turnpike.channel.footing": {"copy_footing": "(footing)"},
 }
 
 CLASSES = {
@@ -46,10 +51,28 @@ CLASSES = {
     "turnpike.ledger.book": {
         "Book": {"__init__": "(purses)", "purse": "(party)", "give": "(party, amount)", "sum_of_money": "()"},
     },
+    "turnpike.ledger.view": {
+        "View": {"__init__": "(book, waiting)", "purse": "(party)", "only_for": "(party, channels)"},
+    },
+    "turnpike.ledger.ledger": {
+        "Ledger": {
+            "__init__": "(purses, *, room)", "offer": "(thing)", "block": "()", "purse": "(party)",
+            "channel": "(number)", "reasons_against": "(thing)", "view": "()", "view_for": "(party, channels)",
+        },
+    },
+    "turnpike.channel.footing": {
+        "Footing": {"__init__": "()", "cover": "()", "may_owe": "(as_first)", "see": "(vault, height)"},
+    },
 }
 
-PROPERTIES = {("turnpike.money.settings", "Settings"): ["toll"]}
-OPERATORS = {("turnpike.money.settings", "Settings"): ["__eq__"]}
+PROPERTIES = {
+    ("turnpike.money.settings", "Settings"): ["toll"],
+    ("turnpike.ledger.ledger", "Ledger"): ["height_now", "burnt_so_far", "all_money"],
+}
+OPERATORS = {
+    ("turnpike.money.settings", "Settings"): ["__eq__"],
+    ("turnpike.ledger.ledger", "Ledger"): ["__contains__"],
+}
 
 
 def defined(module, name):

@@ -2,6 +2,7 @@
 
 import unittest
 
+from tests.helpers import book_fields, thing
 from turnpike.ledger.book import Book
 from turnpike.ledger.reasons import reasons, takes
 from turnpike.ledger.vault import Vault
@@ -24,11 +25,6 @@ def plain(first, second, *locks, number=5, final=False):
 def splice(channel=7, index=0, until=1000, first_in=0, first_out=0, second_in=0, second_out=0):
     """Return the act of a splice."""
     return ("splice", (channel, index, 0, until, first_in, first_out, second_in, second_out))
-
-
-def thing(act, hands=(1, 2), payer=PAYER, fee=5, tag=0):
-    """Return a thing."""
-    return (act, hands, payer, fee, tag)
 
 
 def book_with(purses=((PAYER, 50), (1, 100), (2, 200)), height=HEIGHT, **more):
@@ -558,20 +554,12 @@ class RevealTest(ReasonsTest):
 
 
 class AskingTest(unittest.TestCase):
-    def fields(self, book):
-        vault = book.vaults[7]
-        return (
-            list(book.purses.items()), list(book.vaults), list(book.receipts.items()), list(book.ended),
-            list(book.done), book.height, book.burnt,
-            (vault.opening, vault.sums, vault.splices, vault.least, vault.published, vault.since, vault.money),
-        )
-
     def test_nothing_is_changed(self):
         book = book_with(published=plain(26, 70, OPENED, number=4), since=HEIGHT, sums=(3, 2, 1, 0), splices=2, least=1)
         book.receipts[KEY] = 3
         book.ended.append(8)
         book.done.append((9, 0))
-        before = self.fields(book)
+        before = book_fields(book)
         for act in (
             ("pay", 77, 3), ("open", (8, 55, 66, 1, 1, 1, 1)), ("publish", plain(30, 70)), ("settle", 7),
             splice(first_in=3, second_out=4), ("reveal", 5), ("reveal", 6), ("settle", 99),
@@ -580,7 +568,7 @@ class AskingTest(unittest.TestCase):
                 with self.subTest(act=act, payer=payer):
                     reasons(book, thing(act, payer=payer))
                     takes(book, thing(act, payer=payer))
-                    self.assertEqual(self.fields(book), before)
+                    self.assertEqual(book_fields(book), before)
 
     def test_the_list_is_new(self):
         book = book_with()

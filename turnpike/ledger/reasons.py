@@ -1,8 +1,10 @@
 """What a thing takes from purses, and the reasons against a thing."""
 
-from turnpike.ledger.vault import fits
+from turnpike.ledger.things import channel_of
+from turnpike.ledger.vault import delay_end, ends_of, fits
 from turnpike.money.keys import key_of
 from turnpike.money.locks import was_opened
+from turnpike.money.splices import sums_with
 from turnpike.money.states import opening_state
 from turnpike.ranges import GREATEST_AMOUNT
 
@@ -28,6 +30,16 @@ def reasons(book, thing):
     return words
 
 
+def against_settle(vault, height, receipts):
+    """Return the words of the channel itself that speak against settling it."""
+    if vault.published is None:
+        return ["not published"]
+    return _told([
+        ("runs", height <= delay_end(vault)),
+        ("undecided", _has_undecided_lock(vault.published, height, receipts)),
+    ])
+
+
 def _parts(book, act, payer):
     """Return pairs of a party and an amount: what the act takes besides the fee."""
     kind = act[0]
@@ -40,7 +52,7 @@ def _parts(book, act, payer):
     if kind == "splice":
         channel, _, _, _, first_in, _, second_in, _ = act[1]
         if channel in book.vaults:
-            first, second = _ends(book.vaults[channel])
+            first, second = ends_of(book.vaults[channel])
             return [(first, first_in), (second, second_in)]
     return []
 
@@ -66,10 +78,7 @@ def _against_act(book, act, hands):
         return _against_open(book, act[1], hands)
     if kind == "reveal":
         return _told([("shown", key_of(act[1]) in book.receipts)])
-    if kind == "settle":
-        channel = act[1]
-    else:
-        channel = act[1][0]
+    channel = channel_of(act)
     if channel not in book.vaults:
         return ["no channel"]
     vault = book.vaults[channel]
@@ -77,7 +86,7 @@ def _against_act(book, act, hands):
         return _against_publish(book, vault, act[1], hands)
     if kind == "splice":
         return _against_splice(book, vault, act[1], hands)
-    return _against_settle(book, vault)
+    return against_settle(vault, book.height, book.receipts)
 
 
 def _against_open(book, opening, hands):
@@ -100,55 +109,32 @@ def _against_publish(book, vault, state, hands):
         ("does not fit", not fits(vault, state)),
         ("final with locks", final and len(locks) > 0),
         ("not newer", stands and vault.published[1] >= number),
-        ("over", stands and not _delay_runs(book, vault)),
-    ])
-
-
-def _against_settle(book, vault):
-    if vault.published is None:
-        return ["not published"]
-    return _told([
-        ("runs", _delay_runs(book, vault)),
-        ("undecided", _has_undecided_lock(book, vault.published)),
+        ("over", stands and book.height > delay_end(vault)),
     ])
 
 
 def _against_splice(book, vault, splice, hands):
     _, index, _, until, first_in, first_out, second_in, second_out = splice
-    changes = (first_in, first_out, second_in, second_out)
-    sums = [before + change for before, change in zip(vault.sums, changes)]
     return _told([
         ("hands", _lacks_hands(vault, hands)),
         ("index", index != vault.splices),
         ("late", book.height > until),
         ("not enough", first_out + second_out > vault.money + first_in + second_in),
-        ("too much", max(sums) > GREATEST_AMOUNT),
+        ("too much", max(sums_with(vault.sums, splice)) > GREATEST_AMOUNT),
         ("published", vault.published is not None),
     ])
 
 
-def _ends(vault):
-    """Return the two parties of the channel."""
-    _, first, second, _, _, _, _ = vault.opening
-    return (first, second)
-
-
 def _lacks_hands(vault, hands):
-    first, second = _ends(vault)
+    first, second = ends_of(vault)
     return first not in hands or second not in hands
 
 
-def _has_undecided_lock(book, state):
+def _has_undecided_lock(state, height, receipts):
     """Tell whether some lock of the state is not opened and can still be."""
     _, _, _, _, locks, _ = state
     for lock in locks:
         _, _, deadline, _ = lock
-        if book.height <= deadline and not was_opened(lock, book.receipts):
+        if height <= deadline and not was_opened(lock, receipts):
             return True
     return False
-
-
-def _delay_runs(book, vault):
-    """Tell whether the delay of the channel, which has a published state, is not yet over."""
-    _, _, _, _, _, delay, _ = vault.opening
-    return book.height <= vault.since + delay

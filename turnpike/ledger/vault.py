@@ -1,5 +1,6 @@
 """Channels on the ledger."""
 
+from turnpike.money.splices import changes_of
 from turnpike.money.states import total, worth
 
 
@@ -13,14 +14,26 @@ class Vault:
         self.least = least
         self.published = published
         self.since = since
-        first_change, second_change = _changes(sums)
+        first_change, second_change = changes_of(sums)
         self.money = _money_of(opening) + first_change + second_change
+
+
+def ends_of(vault):
+    """Return the two parties of the channel."""
+    _, first, second, _, _, _, _ = vault.opening
+    return (first, second)
+
+
+def delay_end(vault):
+    """Return the last height at which the delay of the channel runs, which has a published state."""
+    _, _, _, _, _, delay, _ = vault.opening
+    return vault.since + delay
 
 
 def free_of(vault, state):
     """Return what is free of the two ends in the state, with the sums of the channel."""
     _, _, first, second, _, _ = state
-    first_change, second_change = _changes(vault.sums)
+    first_change, second_change = changes_of(vault.sums)
     return (first + first_change, second + second_change)
 
 
@@ -33,7 +46,7 @@ def fits(vault, state):
 def shares(vault, receipts):
     """Return what the two ends get if the channel, which has a published state, is paid out."""
     first_worth, _ = worth(vault.published, receipts)
-    first_change, _ = _changes(vault.sums)
+    first_change, _ = changes_of(vault.sums)
     first = min(first_worth + first_change, vault.money)
     return (first, vault.money - first)
 
@@ -52,9 +65,3 @@ def _money_of(opening):
     """Return what both ends put in with the opening."""
     _, _, _, first_in, second_in, _, _ = opening
     return first_in + second_in
-
-
-def _changes(sums):
-    """Return by how much the sums have changed what each of the two ends has."""
-    first_in, first_out, second_in, second_out = sums
-    return (first_in - first_out, second_in - second_out)

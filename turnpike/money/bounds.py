@@ -1,9 +1,7 @@
 """Bounds of waiting for a ledger that others keep full."""
 
 from turnpike.errors import OutOfBounds
-from turnpike.ranges import GREATEST_AMOUNT
-
-GREATEST_ROOM = 200
+from turnpike.ranges import GREATEST_AMOUNT, GREATEST_ROOM
 
 
 def wait_budget(money, room, fee):

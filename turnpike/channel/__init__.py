@@ -1,0 +1,1 @@
+"""One end of a channel, and what splices change for it."""
