@@ -88,10 +88,6 @@ class EveryActTest(ActsTest):
                 self.assertNotIn(77, book.purses)
                 self.assertEqual(book.done, [(77, 0)])
 
-    def test_nothing_is_returned(self):
-        for act in self.acts:
-            self.assertIsNone(carry_out(book_with(), thing(act)))
-
     def test_the_payer_pays_the_fee(self):
         book = book_with()
         self.do(book, ("reveal", 5), payer=2)

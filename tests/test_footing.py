@@ -121,7 +121,7 @@ class SeeTest(unittest.TestCase):
     def see(self, footing, height=100, **more):
         vault = Vault(OPENING, **more)
         before = vault_fields(vault)
-        self.assertIsNone(footing.see(vault, height))
+        footing.see(vault, height)
         self.assertEqual(vault_fields(vault), before)
         return footing_fields(footing)
 

@@ -29,6 +29,15 @@ FUNCTIONS = {
     "turnpike.ledger.explaining": {"outlook": "(ledger, number)", "holds": "(ledger, party)"},
     "turnpike.ledger.audit": {"audit": "(purses, entries, *, room)"},
     "turnpike.channel.footing": {"copy_footing": "(footing)"},
+    "turnpike.channel.end": {"copy_end": "(end)", "wants": "(end, view)"},
+    "turnpike.party.member": {"copy_member": "(member)", "end_of": "(member, channel)"},
+    "turnpike.party.needs": {"needs": "(member)", "covers": "(member)"},
+    "turnpike.party.knowing": {
+        "secret_for": "(member, lock)", "must_show": "(member, end, lock)", "can_open": "(member, channel, lock)",
+        "may_drop": "(member, end, lock)", "key_is_free": "(member, key)", "tidying": "(member, end)",
+    },
+    "turnpike.party.party": {"copy_party": "(party)"},
+    "turnpike.watch.due": {"state_is_due": "(view, state)", "secret_is_due": "(view, secret, start, last)"},
 }
 
 CLASSES = {
@@ -62,6 +71,21 @@ CLASSES = {
     },
     "turnpike.channel.footing": {
         "Footing": {"__init__": "()", "cover": "()", "may_owe": "(as_first)", "see": "(vault, height)"},
+    },
+    "turnpike.channel.end": {
+        "End": {
+            "__init__": "(opening, *, as_first)", "standing": "()", "is_busy": "()", "is_turn": "()",
+            "is_sure": "(lock)", "peer": "()", "propose": "(step)",
+            "hear_step": "(settings, height, receipts, step)", "hear_answer": "(number)", "see": "(vault, height)",
+            "leave": "()", "may_sign": "(splice, height, far)", "sign": "(splice)",
+        },
+    },
+    "turnpike.party.member": {"Member": {"__init__": "(number, settings)"}},
+    "turnpike.party.party": {
+        "Party": {
+            "__init__": "(number, settings)", "tell": "(view, secrets)", "hear": "(sender, word)", "wish": "(wanted)",
+            "stop": "()",
+        },
     },
 }
 

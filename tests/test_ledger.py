@@ -202,9 +202,6 @@ class OfferTest(unittest.TestCase):
         ledger = ledger_with(pay(), pay(tag=1), pay())
         self.assertEqual(ledger.waiting, [pay(), pay(tag=1), pay()])
 
-    def test_nothing_is_returned(self):
-        self.assertIsNone(Ledger(PURSES, room=1).offer(pay()))
-
     def test_a_thing_that_is_not_ready_may_be_offered(self):
         ledger = ledger_with(thing(("settle", 99), payer=77))
         self.assertEqual(len(ledger.waiting), 1)

@@ -1,1 +1,1 @@
-"""The ledger: channels, purses, and what speaks against a thing."""
+"""The ledger: channels, purses, things, blocks, and views of them."""

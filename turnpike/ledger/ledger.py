@@ -43,7 +43,8 @@ class Ledger:
 
     def block(self):
         """Make a block, and return the list of the things that it did, in order."""
-        self.book.height += 1
+        book = self.book
+        book.height += 1
         did = []
         while len(did) < self.room:
             place = self._next_place()
@@ -51,7 +52,7 @@ class Ledger:
                 break
             thing = self.waiting[place]
             del self.waiting[place]
-            carry_out(self.book, thing)
+            carry_out(book, thing)
             did.append(thing)
         return did
 

@@ -47,6 +47,15 @@ class Settings:
         )
 
 
+def copy_settings(settings):
+    """Return equal new settings."""
+    return Settings(
+        fee=settings.fee, lead=settings.lead, margin=settings.margin, delay=settings.delay, far=settings.far,
+        least=settings.least, farthest=settings.farthest, reveal_lead=settings.reveal_lead, base=settings.base,
+        per_mille=settings.per_mille, gap=settings.gap,
+    )
+
+
 def _check_range(name, number, least, greatest):
     if number < least or number > greatest:
         raise InvalidSettings(f"{name} is not from {least} to {greatest}")

@@ -1,0 +1,1 @@
+"""Honest parties: what they know, need, say and offer."""
