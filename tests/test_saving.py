@@ -1,4 +1,4 @@
-"""Point 59: what is saved, stopping, and copies."""
+"""Points 4 and 59: what is kept of arguments, what is saved, stopping, and copies."""
 
 import unittest
 
@@ -40,6 +40,12 @@ class NewPartyTest(unittest.TestCase):
         self.assertIsInstance(party.kept, Member)
         self.assertIsNot(party.now, party.kept)
         self.assertEqual(party.now.settings, settings_with(fee=9))
+
+    def test_a_change_of_the_settings_is_not_seen(self):
+        settings = settings_with(fee=9)
+        party = Party(3, settings)
+        settings.fee = 8
+        self.assertEqual([party.now.settings.fee, party.kept.settings.fee], [9, 9])
 
 
 class SavingTest(unittest.TestCase):
