@@ -38,6 +38,14 @@ FUNCTIONS = {
     },
     "turnpike.party.party": {"copy_party": "(party)"},
     "turnpike.watch.due": {"state_is_due": "(view, state)", "secret_is_due": "(view, secret, start, last)"},
+    "turnpike.watch.watcher": {"copy_watcher": "(watcher)"},
+    "turnpike.routes.ways": {
+        "limit_of": "(limits, channel, giver)", "may_carry": "(way, amount, limits)", "loads": "(route, amount)",
+    },
+    "turnpike.routes.finding": {"find_route": "(ways, limits, request, deadline)"},
+    "turnpike.routes.learning": {"learn": "(limits, route, amount, outcome)"},
+    "turnpike.routes.trying": {"try_routes": "(ways, balances, limits, request, *, attempts)"},
+    "turnpike.town.deeds": {"check_deed": "(deed)"},
 }
 
 CLASSES = {
@@ -87,11 +95,18 @@ CLASSES = {
             "stop": "()",
         },
     },
+    "turnpike.watch.watcher": {
+        "Watcher": {
+            "__init__": "(party, *, fee)", "keep": "(state, hands)", "reveal": "(secret, start, last)",
+            "drop": "(channel)", "tick": "(view)",
+        },
+    },
 }
 
 PROPERTIES = {
     ("turnpike.money.settings", "Settings"): ["toll"],
     ("turnpike.ledger.ledger", "Ledger"): ["height_now", "burnt_so_far", "all_money"],
+    ("turnpike.watch.watcher", "Watcher"): ["duties", "reveals"],
 }
 OPERATORS = {
     ("turnpike.money.settings", "Settings"): ["__eq__"],

@@ -1,12 +1,12 @@
 """The ledger: a book, the things that wait, and blocks with little room."""
 
-from turnpike.errors import InvalidPurses, OutOfBounds, TooMuchMoney
+from turnpike.errors import InvalidPurses, TooMuchMoney
 from turnpike.ledger.acts import carry_out
 from turnpike.ledger.book import Book, copy_book
 from turnpike.ledger.reasons import reasons
 from turnpike.ledger.vault import copy_vault
 from turnpike.ledger.view import View
-from turnpike.ranges import GREATEST_AMOUNT, GREATEST_ROOM
+from turnpike.ranges import GREATEST_AMOUNT, GREATEST_ROOM, check_range
 
 MOST_PURSES = 50
 
@@ -16,8 +16,7 @@ class Ledger:
 
     def __init__(self, purses, *, room):
         _check_purses(purses)
-        if room < 1 or room > GREATEST_ROOM:
-            raise OutOfBounds(f"the room is not from 1 to {GREATEST_ROOM}")
+        check_range("the room", room, 1, GREATEST_ROOM)
         self.book = Book(purses)
         self.room = room
         self.waiting = []

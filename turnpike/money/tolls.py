@@ -34,17 +34,18 @@ def legs(amount, deadline, tolls):
     """Return the pairs of an amount and a deadline by which the amount arrives at the deadline."""
     if len(tolls) > MOST_TOLLS:
         raise OutOfBounds(f"there are more than {MOST_TOLLS} tolls")
-    _check_amount(amount)
+    found = unbounded_legs(amount, deadline, tolls)
+    if max([each for each, _ in found]) > GREATEST_AMOUNT:
+        raise TooMuchMoney(f"the amount of a leg is more than {GREATEST_AMOUNT}")
+    return found
+
+
+def unbounded_legs(amount, deadline, tolls):
+    """Return the legs, however many there are and however great they become."""
     found = [(amount, deadline)]
     for toll in reversed(tolls):
         _, _, gap = toll
         amount = must_come_in(toll, amount)
         deadline = deadline + gap
-        _check_amount(amount)
         found.append((amount, deadline))
     return found[::-1]
-
-
-def _check_amount(amount):
-    if amount > GREATEST_AMOUNT:
-        raise TooMuchMoney(f"the amount of a leg is more than {GREATEST_AMOUNT}")

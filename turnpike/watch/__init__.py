@@ -1,1 +1,1 @@
-"""What is due on the ledger for a party that is silent."""
+"""Watchers, and what is due on the ledger for a party that is silent."""

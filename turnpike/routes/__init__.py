@@ -1,0 +1,1 @@
+"""Routes over several channels: ways, the cheapest route, and what attempts teach."""

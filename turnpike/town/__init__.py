@@ -1,0 +1,1 @@
+"""Towns: a ledger, honest parties, and others who do what they like."""
