@@ -100,6 +100,14 @@ def party_fields(party):
     return (member_fields(party.now), member_fields(party.kept), party.awake)
 
 
+def town_fields(town):
+    """Return all that a town tells, in its order."""
+    return (
+        ledger_fields(town.ledger), [(number, party_fields(party)) for number, party in town.parties.items()],
+        list(town.letters), list(town.shown), list(town.hands), list(town.things),
+    )
+
+
 def opening_with(channel=7, first=1, second=2, first_in=400, second_in=600, delay=10, until=1000):
     """Return an opening."""
     return (channel, first, second, first_in, second_in, delay, until)

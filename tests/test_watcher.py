@@ -197,7 +197,7 @@ class TickTest(unittest.TestCase):
         others = (
             publishing(plain(5), 77, hands=(2, 1)), publishing(plain(5), 77, hands=()),
             publishing(plain(5), 77, payer=51), publishing(plain(6), 77), publishing(plain(5, first=1), 77),
-            (("settle", 7), HANDS, 50, 3, 77), (("open", opening_with()), HANDS, 50, 3, 77),
+            (("settle", 7), HANDS, 50, 3, 77), (("open", opening_with()), HANDS, 50, 3, 77), revealing(5, 77, HANDS),
         )
         for other in others:
             with self.subTest(other=other):

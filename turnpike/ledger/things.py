@@ -1,4 +1,7 @@
-"""Acts, and the channels that they are about."""
+"""Acts: which of them need hands, and the channels that they are about."""
+
+# The kinds of acts on which both ends of a channel give their hands.
+KINDS_WITH_HANDS = ("open", "publish", "splice")
 
 
 def channel_of(act):
@@ -6,6 +9,6 @@ def channel_of(act):
     kind = act[0]
     if kind == "settle":
         return act[1]
-    if kind in ("open", "publish", "splice"):
+    if kind in KINDS_WITH_HANDS:
         return act[1][0]
     return None

@@ -1,6 +1,6 @@
 """Things that a party offers, and steps that it proposes."""
 
-from turnpike.ledger.things import channel_of
+from turnpike.ledger.things import KINDS_WITH_HANDS, channel_of
 from turnpike.party.member import end_of, learn
 from turnpike.party.needs import needs
 
@@ -42,7 +42,7 @@ def learn_paid(member, step):
 
 
 def _hands_for(member, act):
-    if act[0] not in ("open", "publish", "splice"):
+    if act[0] not in KINDS_WITH_HANDS:
         return ()
     _, first, second, _, _, _, _ = end_of(member, channel_of(act)).opening
     return (first, second)

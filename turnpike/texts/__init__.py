@@ -1,0 +1,1 @@
+"""Trees and their texts, values and objects as trees, saved texts, scripts."""
