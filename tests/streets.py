@@ -343,5 +343,5 @@ class Street:
             for end in list(self.member(number).ends):
                 self.do(("wish", number, ("leave", end.opening[0])))
 
-    def end_of(self, number, channel):
+    def find_end(self, number, channel):
         return end_of(self.member(number), channel)

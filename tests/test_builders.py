@@ -169,7 +169,9 @@ class MemberTest(BuilderCase):
         self.check_changes(member_from, member_tree, samples.MEMBER_TREE, MEMBER, [(5, 1)])
 
     def test_equal_keys_of_receipts(self):
-        for receipts, expected in ((((9, 3), (4, 3)), True), (((9, 3), (4, 98), (9, 3)), False), (((0, 1), (0, 2)), False)):
+        for receipts, expected in (
+            (((9, 3), (4, 3)), True), (((9, 3), (4, 98), (9, 3)), False), (((0, 1), (0, 2)), False),
+        ):
             self.check(member_from, member_tree, with_item(samples.MEMBER_TREE, (3,), receipts), expected)
 
     def test_equal_items_of_lists(self):

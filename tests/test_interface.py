@@ -46,6 +46,26 @@ FUNCTIONS = {
     "turnpike.routes.learning": {"learn": "(limits, route, amount, outcome)"},
     "turnpike.routes.trying": {"try_routes": "(ways, balances, limits, request, *, attempts)"},
     "turnpike.town.deeds": {"check_deed": "(deed)"},
+    "turnpike.texts.trees": {"write_tree": "(tree)", "read_tree": "(text, *, line=1)"},
+    "turnpike.texts.shapes": {
+        "is_lock": "(tree)", "is_state": "(tree)", "is_opening": "(tree)", "is_splice": "(tree)", "is_act": "(tree)",
+        "is_thing": "(tree)", "is_move": "(tree)", "is_step": "(tree)", "is_word": "(tree)", "is_wish": "(tree)",
+        "is_deed": "(tree)",
+    },
+    "turnpike.texts.objects": {
+        "settings_tree": "(settings)", "end_tree": "(end)", "member_tree": "(member)", "party_tree": "(party)",
+        "vault_tree": "(vault)", "ledger_tree": "(ledger)", "town_tree": "(town)",
+    },
+    "turnpike.texts.builders": {
+        "settings_from": "(tree)", "end_from": "(tree)", "member_from": "(tree)", "party_from": "(tree)",
+        "vault_from": "(tree)", "ledger_from": "(tree)", "town_from": "(tree)",
+    },
+    "turnpike.texts.saved": {
+        "party_text": "(party)", "town_text": "(town)", "read_party": "(text)", "read_town": "(text)",
+    },
+    "turnpike.texts.script": {
+        "write_script": "(deeds)", "read_script": "(text)", "run_script": "(town, text)",
+    },
 }
 
 CLASSES = {
@@ -101,6 +121,11 @@ CLASSES = {
             "drop": "(channel)", "tick": "(view)",
         },
     },
+    "turnpike.town.town": {
+        "Town": {
+            "__init__": "(purses, members, *, room)", "do": "(deed)", "can_offer": "(thing)", "fork": "()",
+        },
+    },
 }
 
 PROPERTIES = {
@@ -111,6 +136,7 @@ PROPERTIES = {
 OPERATORS = {
     ("turnpike.money.settings", "Settings"): ["__eq__"],
     ("turnpike.ledger.ledger", "Ledger"): ["__contains__"],
+    ("turnpike.town.town", "Town"): ["__iter__", "__len__"],
 }
 
 

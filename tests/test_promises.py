@@ -52,6 +52,8 @@ class Promises:
         self.accounts = {}
         self.leaves = []
         self.done = {}
+        self.signed = {}
+        self.tags = {}
         self.checks = 0
 
     def before(self, street, deed):
@@ -60,6 +62,7 @@ class Promises:
         self.actor, self.word = self.actor_and_word(street, deed)
         self.letters = len(street.town.letters) - (deed[0] == "deliver")
         self.things = len(street.town.things)
+        self.hands = len(street.town.hands)
         if self.actor is None:
             return
         party = street.town.parties[self.actor]
@@ -106,10 +109,21 @@ class Promises:
         if deed[0] == "wish" and deed[2][0] == "leave":
             self.note_leave(street, deed[2][1])
         if self.word is not None and self.word[0] == "step":
-            end = street.end_of(self.actor, self.word[1])
+            end = street.find_end(self.actor, self.word[1])
             if end is not None and end.last != self.last[self.word[1]]:
                 account.gains += sum([move[1] for move in self.word[3] if move[0] == "transfer"])
         self.count_invoices(street, member, account)
+        self.check_signed(street)
+
+    def check_signed(self, street):
+        """Check that a party signs one state of each number, and tags its things differently."""
+        for number, act in street.town.hands[self.hands:]:
+            if act[0] == "publish":
+                state = self.signed.setdefault((number, act[1][:2]), act[1])
+                self.case.assertEqual(state, act[1], "one hand for each number")
+        for thing in street.town.things[self.things:]:
+            self.case.assertNotIn(thing[2::2], self.tags, "different tags")
+            self.tags[thing[2::2]] = True
 
     def count_invoices(self, street, member, account):
         """Count the invoices whose secrets the party has shown to somebody now; nobody else knew them before."""
@@ -121,7 +135,7 @@ class Promises:
         account.asked.update({secret: asked[secret] for secret in secrets if secret in asked})
 
     def note_leave(self, street, channel):
-        opening = street.end_of(self.actor, channel).opening
+        opening = street.find_end(self.actor, channel).opening
         settings = street.settings
         blocks = settings.far + settings.farthest + opening[5] + 3 * (street.bound + street.silence) + 6
         self.leaves.append((opening, street.height + blocks))
@@ -174,7 +188,7 @@ class Promises:
 class StreetTest(unittest.TestCase):
     def run_street(self, seed):
         promises = Promises(self)
-        street = Street(seed, honest=1 + seed % 3, silence=seed % 4, quiet=seed % 2 == 1, watch=promises)
+        street = Street(seed, honest=1 + seed % 3, silence=1 + seed % 4, quiet=seed % 2 == 1, watch=promises)
         for _ in range(STEPS):
             street.advance()
         street.leave_all()

@@ -117,8 +117,8 @@ class WrongTextTest(unittest.TestCase):
     def test_a_body_that_is_no_tree(self):
         for read, head, body, _, _ in self.rows():
             for wrong in (
-                "", " ", f"{body} ", f" {body}", f"{body}\r", f"({body}", f"{body})", body.replace(" ", "  ", 1), body[:-1],
-                body.replace(" 0", " 00", 1), body.replace(" 0", " -0", 1), body + body, "X", "1.5",
+                "", " ", f"{body} ", f" {body}", f"{body}\r", f"({body}", f"{body})", body.replace(" ", "  ", 1),
+                body[:-1], body.replace(" 0", " 00", 1), body.replace(" 0", " -0", 1), body + body, "X", "1.5",
                 body.replace("(1 ", "(1" + "0" * 20 + " ", 1), "(" * 21 + ")" * 21,
             ):
                 self.check(read, 2, f"{head}\n{wrong}\n")
@@ -127,8 +127,8 @@ class WrongTextTest(unittest.TestCase):
         for read, head, body, _, _ in self.rows():
             for wrong in (
                 "()", "0", "N", "T", "party", f"({body})", body[:-1] + " ())", body.replace(" 19)", " -1)"),
-                body.replace("(5 10 ", "(0 10 "), body.replace(" 18 19)", " 100001 19)"), body.replace("(5 10 ", "(10 "),
-                body.replace("(5 10 ", "(5 T "),
+                body.replace("(5 10 ", "(0 10 "), body.replace(" 18 19)", " 100001 19)"),
+                body.replace("(5 10 ", "(10 "), body.replace("(5 10 ", "(5 T "),
             ):
                 self.check(read, 2, f"{head}\n{wrong}\n")
 

@@ -52,11 +52,11 @@ class ReadTest(unittest.TestCase):
 
     def test_invalid_lines(self):
         for wrong in (
-            " ", " # remark", "(block) # remark", "(block)#", " (block)", "(block) ", "(block)\r", "(block)(block)", "\t",
-            "(block", "block", "()", "0", "N", "(blocks)", "(block 1)", "(tell)", "(tell T)", "(tell -1)", "(tell 01)",
-            "(tell 4294967296)", "(offer (settle 7))", "(wish 1 (turn 7))", "(say 1 2 (leave 7))", "(TELL 1)", "//",
-            "(wish 1 (transfer 7 1000000000000001))", "(deliver -1)", "(tell 1)\x00", "\u00a0", "\x0c", "\x1c(block)",
-            "(block)\x0b(block)", "(block)\x85", "(block)\u2028(block)",
+            " ", " # remark", "(block) # remark", "(block)#", " (block)", "(block) ", "(block)\r", "(block)(block)",
+            "\t", "(block", "block", "()", "0", "N", "(blocks)", "(block 1)", "(tell)", "(tell T)", "(tell -1)",
+            "(tell 01)", "(tell 4294967296)", "(offer (settle 7))", "(wish 1 (turn 7))", "(say 1 2 (leave 7))",
+            "(TELL 1)", "//", "(wish 1 (transfer 7 1000000000000001))", "(deliver -1)", "(tell 1)\x00", "\u00a0",
+            "\x0c", "\x1c(block)", "(block)\x0b(block)", "(block)\x85", "(block)\u2028(block)",
         ):
             self.check_wrong(1, wrong)
             self.check_wrong(3, f"(block)\n\n{wrong}\n(tell 1)")
@@ -73,7 +73,8 @@ class RunTest(unittest.TestCase):
         text = "# a day\n(block)\n\n(offer ((pay 1 7) () 9 5 0))\n(block)\n(tell 1)\n(wish 1 (invoice 5 6))\n"
         self.assertIsNone(run_script(town, text))
         for deed in (
-            ("block",), ("offer", (("pay", 1, 7), (), 9, 5, 0)), ("block",), ("tell", 1), ("wish", 1, ("invoice", 5, 6)),
+            ("block",), ("offer", (("pay", 1, 7), (), 9, 5, 0)), ("block",), ("tell", 1),
+            ("wish", 1, ("invoice", 5, 6)),
         ):
             other.do(deed)
         self.assertEqual(town_fields(town), town_fields(other))

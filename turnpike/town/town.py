@@ -156,10 +156,10 @@ def _bring(town, sender, receiver, word):
 
 def _take(town, number, found):
     """Take what the honest party says and offers, and the hands that it has given now."""
-    words, things = found
+    words, offered = found
     for receiver, word in words:
         town.letters.append((number, receiver, word))
-    for thing in things:
+    for thing in offered:
         town.ledger.offer(thing)
         town.things.append(thing)
     for act in _signed_acts(town.parties[number].now):
