@@ -3,8 +3,9 @@
 import unittest
 
 from tests import samples
-from tests.helpers import member_fields, party_fields, settings_with, thing, town_fields
+from tests.helpers import end_with, member_fields, party_fields, settings_with, thing, town_fields
 from turnpike.errors import InvalidText
+from turnpike.ledger.vault import Vault
 from turnpike.party.party import Party
 from turnpike.texts.saved import party_text, read_party, read_town, town_text
 from turnpike.texts.trees import write_tree
@@ -78,6 +79,18 @@ class ReadTest(unittest.TestCase):
         for deed in (("deliver", 1), ("offer", thing(("reveal", 3))), ("block",), ("tell", 0), ("copy", 0)):
             self.assertEqual(found.do(deed), town.do(deed))
         self.assertEqual(town_text(found), town_text(town))
+
+
+    def test_a_party_that_keeps_a_state_of_another_channel(self):
+        town = Town([(1, 5000)], [(1, settings_with())], room=3)
+        end = end_with(number=4)
+        end.last = (99, *end.last[1:])
+        end.leave()
+        town.parties[1].now.ends.append(end)
+        town.ledger.book.vaults[7] = Vault(end.opening)
+        found = read_town(town_text(town))
+        found.do(("tell", 1))
+        self.assertEqual(found.things, [(("publish", end.last), (), 1, 5, 0)])
 
 
 class WrongTextTest(unittest.TestCase):

@@ -44,5 +44,9 @@ def learn_paid(member, step):
 def _hands_for(member, act):
     if act[0] not in KINDS_WITH_HANDS:
         return ()
-    _, first, second, _, _, _, _ = end_of(member, channel_of(act)).opening
+    end = end_of(member, channel_of(act))
+    # A party that was read from a text may keep a state of a channel of which it has no end.
+    if end is None:
+        return ()
+    _, first, second, _, _, _, _ = end.opening
     return (first, second)
